@@ -54,21 +54,29 @@ func line(word, name string, numbers ...int) string {
 }
 
 // Read returns the chart of a text.
-func Read(text string) (c api.CtChart, e api.Errno) {
+func Read(text string) (api.CtChart, api.Errno) {
 	if len(text) > api.MaxCtText {
 		return api.CtChart{}, api.ErrLong
 	}
+	c, e := tryRead(text)
+	if e != api.OK {
+		return api.CtChart{}, e
+	}
+	// The reader takes more than one text for the same chart; just the one that is written counts, and none is of a chart with an error.
+	if written, e := Write(c); e != api.OK || written != text {
+		return api.CtChart{}, api.ErrForm
+	}
+	return c, api.OK
+}
+
+// tryRead returns what read does, and an error where that panics.
+func tryRead(text string) (c api.CtChart, e api.Errno) {
 	defer func() {
 		if recover() != nil {
 			c, e = api.CtChart{}, api.ErrForm
 		}
 	}()
-	c = read(text)
-	// The reader takes more than one text for the same chart; just the one that is written counts, and none is of a chart with an error.
-	if written, e := Write(c); e != api.OK || written != text {
-		panic(api.ErrForm)
-	}
-	return c, api.OK
+	return read(text), api.OK
 }
 
 // read returns the chart of a text, or panics if words are missing or wrong.
